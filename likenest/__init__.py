@@ -1,0 +1,1 @@
+"""Likenest: terms made alike, with papers both ways."""

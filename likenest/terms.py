@@ -1,0 +1,161 @@
+"""Signs, and the ground terms that they make: points 10 to 12 of the document."""
+
+from likenest.errors import NoPlace, NoSigns, NoTerm, TooMany
+
+MOST_SIGNS = 8
+MOST_LETTERS = 6
+MOST_PARTS = 3
+MOST_NUMBERS = 30
+
+
+def is_whole(thing):
+    """Whether it is a whole number; truths are ints to Python, but none here."""
+    return isinstance(thing, int) and not isinstance(thing, bool)
+
+
+def is_name(thing):
+    """Whether it may be a sign's name."""
+    if not isinstance(thing, str) or not 1 <= len(thing) <= MOST_LETTERS:
+        return False
+    return all(["a" <= letter <= "z" for letter in thing])
+
+
+def is_sign(thing):
+    """Whether it is a tuple of a name and how many parts it has."""
+    if not isinstance(thing, tuple) or len(thing) != 2:
+        return False
+    name, parts = thing
+    return is_name(name) and is_whole(parts) and 0 <= parts <= MOST_PARTS
+
+
+def are_signs(thing):
+    """Whether it is signs, of anything."""
+    if not isinstance(thing, tuple) or not 1 <= len(thing) <= MOST_SIGNS:
+        return False
+    if not all([is_sign(sign) for sign in thing]):
+        return False
+    if len(set([name for name, parts in thing])) != len(thing):
+        return False
+    return any([parts == 0 for name, parts in thing])
+
+
+def check_signs(signs):
+    """Refuse what is no signs."""
+    if not are_signs(signs):
+        raise NoSigns()
+
+
+def makes_term(signs, thing):
+    """Whether it is a term of what is known to be signs, of anything."""
+    if not isinstance(thing, tuple) or not 1 <= len(thing) <= MOST_NUMBERS:
+        return False
+    wanted = 1
+    for number in thing:
+        if wanted == 0 or not is_whole(number) or not 0 <= number < len(signs):
+            return False
+        wanted += signs[number][1] - 1
+    return wanted == 0
+
+
+def check_term(signs, term, at=0):
+    """Refuse what is no term of what is known to be signs, as the one at that place of the call."""
+    if not makes_term(signs, term):
+        raise NoTerm(at)
+
+
+def check_place(term, place):
+    """Refuse what is no place of a term."""
+    if not is_whole(place) or not 0 <= place < len(term):
+        raise NoPlace()
+
+
+def is_term(signs, thing):
+    """Whether it is a term of the signs, of anything."""
+    check_signs(signs)
+    return makes_term(signs, thing)
+
+
+def ends_of(signs, term):
+    """For each place of a term the place behind the inner term that begins there."""
+    ends = [0] * len(term)
+    # From the right, so that the ends of a place's parts stand when it needs them.
+    for place in range(len(term) - 1, -1, -1):
+        end = place + 1
+        for part in range(signs[term[place]][1]):
+            end = ends[end]
+        ends[place] = end
+    return ends
+
+
+def part_places(signs, term, ends, place):
+    """The places where the parts of the inner term begin that begins at a place."""
+    places = []
+    begin = place + 1
+    for part in range(signs[term[place]][1]):
+        places.append(begin)
+        begin = ends[begin]
+    return places
+
+
+def parts_of(signs, term):
+    """The parts of a term, in their order: a list."""
+    check_signs(signs)
+    check_term(signs, term)
+    ends = ends_of(signs, term)
+    return [term[begin:ends[begin]] for begin in part_places(signs, term, ends, 0)]
+
+
+def order_key(term):
+    """What terms of the same signs are put in order by: fewer numbers first, then as tuples compare."""
+    return (len(term), term)
+
+
+def inner(signs, term):
+    """The inner terms of a term, each once, in order: a list."""
+    check_signs(signs)
+    check_term(signs, term)
+    ends = ends_of(signs, term)
+    found = {term[place:ends[place]]: True for place in range(len(term))}
+    return sorted(found, key=order_key)
+
+
+def depth(signs, term):
+    """How deep a term is: 1 without parts, else one more than its deepest part."""
+    check_signs(signs)
+    check_term(signs, term)
+    ends = ends_of(signs, term)
+    depths = [1] * len(term)
+    for place in range(len(term) - 1, -1, -1):
+        for begin in part_places(signs, term, ends, place):
+            depths[place] = max(depths[place], depths[begin] + 1)
+    return depths[0]
+
+
+def inner_at(signs, term, place):
+    """The inner term that begins at a place."""
+    check_signs(signs)
+    check_term(signs, term)
+    check_place(term, place)
+    return term[place:ends_of(signs, term)[place]]
+
+
+def put(signs, term, place, other):
+    """The term with another one in the place of the inner term that begins at a place."""
+    check_signs(signs)
+    check_term(signs, term)
+    check_place(term, place)
+    check_term(signs, other, 1)
+    made = term[:place] + other + term[ends_of(signs, term)[place]:]
+    if len(made) > MOST_NUMBERS:
+        raise TooMany(len(made), MOST_NUMBERS)
+    return made
+
+
+def in_order(signs, terms):
+    """The terms of a list in order, twins too: a list."""
+    check_signs(signs)
+    if not isinstance(terms, list):
+        raise NoTerm(0)
+    for at, term in enumerate(terms):
+        check_term(signs, term, at)
+    return sorted(terms, key=order_key)
