@@ -1,11 +1,12 @@
 """Signs, and the ground terms that they make: points 10 to 12 of the document."""
 
-from likenest.errors import NoPlace, NoSigns, NoTerm, TooMany
+from likenest.errors import NoGivens, NoPlace, NoSigns, NoTerm, TooMany
 
 MOST_SIGNS = 8
 MOST_LETTERS = 6
 MOST_PARTS = 3
 MOST_NUMBERS = 30
+MOST_PAIRS = 60
 
 
 def is_whole(thing):
@@ -63,6 +64,32 @@ def check_term(signs, term, at=0):
         raise NoTerm(at)
 
 
+def check_two(signs, one, other):
+    """Refuse what are no two terms of what is known to be signs, at 0 and 1."""
+    check_term(signs, one, 0)
+    check_term(signs, other, 1)
+
+
+def is_pair(signs, thing):
+    """Whether it is a tuple of two terms of what is known to be signs, of anything."""
+    if not isinstance(thing, tuple) or len(thing) != 2:
+        return False
+    return makes_term(signs, thing[0]) and makes_term(signs, thing[1])
+
+
+def are_pairs(signs, thing):
+    """Whether it is such a tuple of pairs as givens and unlikes are handed in by, of anything."""
+    if not isinstance(thing, tuple) or len(thing) > MOST_PAIRS:
+        return False
+    return all([is_pair(signs, pair) for pair in thing])
+
+
+def check_givens(signs, givens):
+    """Refuse what is no tuple of givens of what is known to be signs."""
+    if not are_pairs(signs, givens):
+        raise NoGivens()
+
+
 def check_place(term, place):
     """Refuse what is no place of a term."""
     if not is_whole(place) or not 0 <= place < len(term):
@@ -97,12 +124,17 @@ def part_places(signs, term, ends, place):
     return places
 
 
+def split_term(signs, term):
+    """The parts of what is known to be a term, in their order: a list."""
+    ends = ends_of(signs, term)
+    return [term[begin:ends[begin]] for begin in part_places(signs, term, ends, 0)]
+
+
 def parts_of(signs, term):
     """The parts of a term, in their order: a list."""
     check_signs(signs)
     check_term(signs, term)
-    ends = ends_of(signs, term)
-    return [term[begin:ends[begin]] for begin in part_places(signs, term, ends, 0)]
+    return split_term(signs, term)
 
 
 def order_key(term):
@@ -110,13 +142,21 @@ def order_key(term):
     return (len(term), term)
 
 
+def gathered(signs, known, terms):
+    """Known terms, and all inner terms of what are known to be terms, each once, in order: a list."""
+    found = {term: True for term in known}
+    for term in terms:
+        ends = ends_of(signs, term)
+        for place in range(len(term)):
+            found[term[place:ends[place]]] = True
+    return sorted(list(found), key=order_key)
+
+
 def inner(signs, term):
     """The inner terms of a term, each once, in order: a list."""
     check_signs(signs)
     check_term(signs, term)
-    ends = ends_of(signs, term)
-    found = {term[place:ends[place]]: True for place in range(len(term))}
-    return sorted(found, key=order_key)
+    return gathered(signs, (), (term,))
 
 
 def depth(signs, term):

@@ -1,7 +1,13 @@
-"""What several tests need: terms as trees, which know their parts without any counting, and odd things."""
+"""What several tests need: terms as trees, which know their parts without any counting, slow ways, odd things."""
+
+import itertools
+import unittest
+
+from likenest.books import Book
 
 SIGNS = (("a", 0), ("b", 0), ("g", 1), ("f", 2), ("h", 3))
 A, B, G, F, H = range(5)
+C_SIGNS = (("a", 0), ("b", 0), ("c", 0), ("d", 0), ("g", 1), ("f", 2))
 
 
 def trees(signs, size):
@@ -55,6 +61,11 @@ def chain(numbers):
     return (G,) * (numbers - 1) + (A,)
 
 
+def chain_b(numbers):
+    """g(g(..b)) with so many numbers."""
+    return (G,) * (numbers - 1) + (B,)
+
+
 def nested(kind, deep):
     """A thing so deep, of lists, tuples or dicts."""
     thing = 0
@@ -72,3 +83,246 @@ def odd_things():
         (10 ** 39,), (-1,), nested(list, 12), nested(tuple, 12), nested(dict, 12), (nested(list, 11),),
         [0] * 60000, (0,) * 60000, (("a", 0),) * 20000, ((),) * 50000, {place: (0,) for place in range(20000)},
     ]
+
+
+# Here, since they need chain.
+NO_SIGNS = [(), [("a", 0)], (["a", 0],), (("f", 1),), (("a", 0), ("a", 1)), (("A", 0),), (("a", 4), ("b", 0))]
+NO_TERMS = [(), (F,), (F, A), (A, A), (5,), (-1,), (True,), (False,), [A], (F, A, B, A), chain(31), None, "a", 0]
+NO_GIVENS = [[((A,), (B,))], ([(A,), (B,)],), (((A,),),), (((A,), (B,), (A,)),), ((A,), (B,)), ((),), (None,),
+             (((A,), (True,)),), (((A,), [B]),), (((A,), (5,)),), (((A,), chain(31)),), {}, None, 0, "", "ab",
+             (((A,), (B,)), None), (((A,), (B,)),) * 61, ((A, B),)]
+
+
+class Case(unittest.TestCase):
+    def refused(self, error, fields, function, *told, **named):
+        """Refused with just this error, of the very class, with these fields."""
+        with self.assertRaises(error) as caught:
+            function(*told, **named)
+        self.assertIs(type(caught.exception), error)
+        self.assertEqual(vars(caught.exception), fields)
+
+
+class BookCase(Case):
+    def stands(self, book, known, givens, unlikes, levels):
+        """The book tells just this, in values of the kinds that are told."""
+        self.assertEqual(book.known(), ordered(known))
+        self.assertEqual(book.givens(), tuple(givens))
+        self.assertEqual(book.unlikes(), tuple(unlikes))
+        self.assertEqual(book.levels(), levels)
+        self.assertEqual(len(book), len(known))
+        text = f"Book of {len(known)} terms, {len(givens)} givens, {len(unlikes)} unlikes, {levels} levels"
+        self.assertEqual(str(book), text)
+        self.assertIs(type(book.known()), list)
+        self.assertIs(type(book.givens()), tuple)
+        self.assertIs(type(book.unlikes()), tuple)
+        self.assertIs(type(book.levels()), int)
+
+    def unmoved(self, book, error, fields, function, *told, **named):
+        """Refused so, and the book is as it was."""
+        before, twin = state(book), book.twin()
+        self.refused(error, fields, function, *told, **named)
+        self.assertEqual(state(book), before)
+        self.assertTrue(book == twin)
+
+
+def book_of(givens, signs=SIGNS):
+    book = Book(signs)
+    for one, other in givens:
+        book.tell(one, other)
+    return book
+
+
+def full_book():
+    """A book with forty known terms."""
+    book = Book(SIGNS)
+    book.know(chain(30))
+    book.know(chain_b(10))
+    return book
+
+
+def state(book):
+    """All that is told of a book without a term."""
+    return (book.signs(), book.known(), book.givens(), book.unlikes(), book.levels(), len(book), str(book),
+            book.classes())
+
+
+def tree_of(signs, term):
+    """The tree of a term."""
+    def read(place):
+        parts = []
+        end = place + 1
+        for part in range(signs[term[place]][1]):
+            tree, end = read(end)
+            parts.append(tree)
+        return (term[place],) + tuple(parts), end
+    return read(0)[0]
+
+
+def inner_terms(signs, terms):
+    """The set of all inner terms of terms."""
+    return {flat(inside) for term in terms for inside in within(tree_of(signs, term))}
+
+
+def ordered(terms):
+    return sorted(terms, key=lambda term: (len(term), term))
+
+
+def slow_labels(signs, givens, terms):
+    """A label for each inner term of terms and givens, the same just for alike ones: all are held against all."""
+    told = [term for pair in givens for term in pair] + list(terms)
+    trees = [tree_of(signs, term) for term in ordered(inner_terms(signs, told))]
+    labels = {tree: number for number, tree in enumerate(trees)}
+
+    def merge(one, other):
+        old, new = labels[one], labels[other]
+        for tree in trees:
+            if labels[tree] == old:
+                labels[tree] = new
+
+    for one, other in givens:
+        merge(tree_of(signs, one), tree_of(signs, other))
+    changed = True
+    while changed:
+        changed = False
+        for one, other in itertools.combinations(trees, 2):
+            if labels[one] != labels[other] and one[0] == other[0]:
+                if all(labels[left] == labels[right] for left, right in zip(one[1:], other[1:])):
+                    merge(one, other)
+                    changed = True
+    return {flat(tree): labels[tree] for tree in trees}
+
+
+def slow_classes(signs, givens, known):
+    """The classes of known terms, as a book tells them."""
+    labels = slow_labels(signs, givens, known)
+    classes = {}
+    for term in ordered(known):
+        classes.setdefault(labels[term], []).append(term)
+    return sorted(classes.values(), key=lambda terms: (len(terms[0]), terms[0]))
+
+
+def drawn_term(dice, signs=SIGNS, deep=2, most=30):
+    """A term of at most so deep and so many numbers; dice is a random.Random of a fixed seed."""
+    bare = [number for number, (name, parts) in enumerate(signs) if parts == 0]
+
+    def draw(deep):
+        number = dice.choice(bare) if deep <= 1 else dice.randrange(len(signs))
+        return (number,) + tuple(inside for part in range(signs[number][1]) for inside in draw(deep - 1))
+    while True:
+        term = draw(deep)
+        if len(term) <= most:
+            return term
+
+
+def drawn_pairs(dice, many, signs=SIGNS, deep=2):
+    return tuple((drawn_term(dice, signs, deep), drawn_term(dice, signs, deep)) for pair in range(many))
+
+
+def is_number(thing):
+    return type(thing) is int
+
+
+def slow_term(signs, thing):
+    """Whether it is a term, of anything: read as a tree."""
+    if type(thing) is not tuple or not 1 <= len(thing) <= 30:
+        return False
+    return slow_row(signs, thing, 0)
+
+
+def slow_row(signs, thing, letters):
+    """Whether a tuple is one tree of signs and so many letters, read from its begin to its end."""
+    def read(place):
+        if place >= len(thing) or not is_number(thing[place]):
+            return None
+        if -letters <= thing[place] < 0:
+            return place + 1
+        if not 0 <= thing[place] < len(signs):
+            return None
+        end = place + 1
+        for part in range(signs[thing[place]][1]):
+            end = None if end is None else read(end)
+        return end
+    return read(0) == len(thing)
+
+
+def otherwise(thing):
+    """The thing with one thing otherwise at any depth, in many ways, one after the other."""
+    if is_number(thing):
+        yield from (thing + 1, thing - 1, -1 - thing, 10 ** 39, thing == 1, None, str(thing), (thing,), [thing])
+        return
+    if type(thing) is str:
+        yield from (thing + "s", thing[1:], thing.upper(), None, 0, (thing,), [thing])
+        return
+    if type(thing) is not tuple:
+        yield from (None, 0, "a", (), [])
+        return
+    yield from (list(thing), None, 0, True, "a", {}, dict.fromkeys(range(len(thing))), (thing,), thing + (0,))
+    yield from (thing + (None,), thing + ((),), thing[::-1])
+    for place in range(len(thing)):
+        yield thing[:place] + thing[place + 1:]
+        yield thing[:place + 1] + thing[place:]
+        for inside in otherwise(thing[place]):
+            yield thing[:place] + (inside,) + thing[place + 1:]
+
+
+def slow_table(signs, model, tree):
+    """The worth of a tree in a model, each table gone through from its begin."""
+    size, rest, tables = model
+    parts = tuple(slow_table(signs, model, part) for part in tree[1:])
+    for row, worth in tables[tree[0]]:
+        if row == parts:
+            return worth
+    return rest
+
+
+def slow_worth(signs, model, term):
+    return slow_table(signs, model, tree_of(signs, term))
+
+
+def slow_pair(pairs, grounds, line):
+    """The pair of terms that a line shows behind those pairs, by the words of the document; None where it is none."""
+    signs, givens, rules = grounds
+
+    def number(thing, many):
+        return is_number(thing) and thing in range(many)
+
+    match line if type(line) is tuple else None:
+        case ("self", term) if slow_term(signs, term):
+            return (term, term)
+        case ("given", k) if number(k, len(givens)):
+            return givens[k]
+        case ("turned", i) if number(i, len(pairs)):
+            return pairs[i][::-1]
+        case ("joined", i, j) if number(i, len(pairs)) and number(j, len(pairs)) and pairs[i][1] == pairs[j][0]:
+            return (pairs[i][0], pairs[j][1])
+        case ("parts", sign, lines) if number(sign, len(signs)) and type(lines) is tuple:
+            if len(lines) == signs[sign][1] and all(number(i, len(pairs)) for i in lines):
+                return tuple((sign,) + sum((pairs[i][side] for i in lines), ()) for side in (0, 1))
+        case ("rule", r, terms) if number(r, len(rules)) and type(terms) is tuple:
+            if len(terms) == len({n for n in rules[r][0] if n < 0}) and all(slow_term(signs, t) for t in terms):
+                return tuple(sum((terms[-1 - n] if n < 0 else (n,) for n in side), ()) for side in rules[r])
+    return None
+
+
+def slow_pairs(grounds, lines):
+    """The pairs that lines show, None where one is none, of anything."""
+    if type(lines) is not tuple or not 1 <= len(lines) <= 20000:
+        return None
+    pairs = []
+    for line in lines:
+        pair = slow_pair(pairs, grounds, line)
+        if pair is None or max(len(pair[0]), len(pair[1])) > 200:
+            return None
+        pairs.append(pair)
+    return pairs
+
+
+def named(line):
+    """The numbers of lines that a line names."""
+    return {"turned": line[1:], "joined": line[1:], "parts": line[2] if len(line) > 2 else ()}.get(line[0], ())
+
+
+def are_lean(grounds, lines):
+    pairs = slow_pairs(grounds, lines)
+    told = {number for line in lines for number in named(line)}
+    return len(set(pairs)) == len(lines) and told == set(range(len(lines) - 1))

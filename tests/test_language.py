@@ -53,6 +53,10 @@ def bound_names(node):
     return []
 
 
+def is_call_of(node, name):
+    return isinstance(node, ast.Call) and isinstance(node.func, ast.Name) and node.func.id == name
+
+
 class Language(unittest.TestCase):
     def test_l1_only_files_with_plain_names(self):
         self.assertTrue((PACKAGE / "__init__.py").is_file())
@@ -139,6 +143,22 @@ class Language(unittest.TestCase):
                     if isinstance(sign, (ast.Is, ast.IsNot)):
                         self.assertTrue(isinstance(right, ast.Constant) and right.value in (None, True, False), name)
 
+    def test_l23_iterated_at_once(self):
+        for name, node in nodes():
+            if isinstance(node, (ast.Assign, ast.Return)) and isinstance(node.value, ast.Call):
+                called = node.value.func
+                self.assertNotIn(getattr(called, "id", ""), ("zip", "enumerate", "reversed", "range"), name)
+                self.assertNotIn(getattr(called, "attr", ""), ("items", "keys", "values"), name)
+
+    def test_l24_no_set_is_stored_or_iterated(self):
+        for name, node in nodes():
+            if isinstance(node, (ast.Assign, ast.Return)):
+                self.assertNotIsInstance(node.value, (ast.Set, ast.SetComp), name)
+                self.assertFalse(is_call_of(node.value, "set"), name)
+            if isinstance(node, (ast.For, ast.comprehension)):
+                self.assertNotIsInstance(node.iter, (ast.Set, ast.SetComp), name)
+                self.assertFalse(is_call_of(node.iter, "set"), name)
+
     def test_l25_methods_of_builtin_values(self):
         allowed = BUILTIN_METHODS | own_methods()
         for name, node in nodes():
@@ -149,6 +169,20 @@ class Language(unittest.TestCase):
         for name, node in nodes():
             if isinstance(node, ast.Constant) and isinstance(node.value, str):
                 self.assertNotIn("%", node.value, name)
+
+    def test_l27_no_f_string_over_two_lines(self):
+        for name, node in nodes():
+            if isinstance(node, ast.JoinedStr):
+                self.assertEqual(node.lineno, node.end_lineno, name)
+
+    def test_l28_last_statements(self):
+        for name, node in nodes():
+            if isinstance(node, ast.FunctionDef) and node.name in ("__len__", "__eq__", "__str__", "__repr__"):
+                self.assertIsInstance(node.body[-1], ast.Return, name)
+                for below in ast.walk(node):
+                    self.assertNotIsInstance(below, (ast.Assign, ast.AugAssign, ast.Delete), name)
+                    if node.name == "__len__" and isinstance(below, ast.Return):
+                        self.assertTrue(is_call_of(below.value, "len"), name)
 
     def test_l18_no_name_is_a_method_and_an_attribute(self):
         stored = {node.attr for name, node in nodes()

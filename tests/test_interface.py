@@ -1,0 +1,162 @@
+"""The interface: names of arguments, defaults, what goes by name alone; and point 2 for all that stage 2 brings."""
+
+import copy
+import inspect
+import unittest
+
+from helper import A, B, F, G, SIGNS, Case, book_of, odd_things, state
+from likenest import books, lines, models, patterns
+from likenest.books import Book
+from likenest.errors import AbsentError, NestError
+
+# Each argument as (name, default); a star goes ahead of those by name alone.
+FUNCTIONS = {
+    lines.led: ["signs", "givens", "lines", "*", ("rules", ())],
+    lines.are_lines_for: ["signs", "givens", "lines", "one", "other", "*", ("rules", ())],
+    lines.leaned: ["signs", "givens", "lines", "*", ("rules", ())],
+    lines.lines_for: ["book", "one", "other"],
+    models.is_model: ["signs", "givens", "thing", "*", ("unlikes", ())],
+    models.worth: ["signs", "model", "term"],
+    models.model_of: ["book"],
+    models.answer: ["book", "one", "other"],
+    patterns.is_pattern: ["signs", "thing"],
+    patterns.are_rules: ["signs", "thing"],
+    patterns.matches: ["nest", "pattern"],
+    books.Book: ["signs"],
+}
+METHODS = {
+    "know": ["term"], "push": [], "back": [("levels", 1)], "tell": ["one", "other"], "part": ["one", "other"],
+    "alike": ["one", "other"], "tried": ["pairs", "one", "other"], "classes": [], "known": [], "first": ["term"],
+    "givens": [], "unlikes": [], "levels": [], "signs": [], "twin": [],
+}
+GIVENS = (((A,), (B,)), ((G, A), (B,)))
+LINES = (("given", 0), ("given", 0), ("parts", G, (1,)), ("rule", 0, ((A,),)), ("joined", 3, 1))
+RULES = (((G, G, -1), (-1,)),)
+MODEL = (2, 1, ((((), 0),), (((), 0),), (((0,), 0),), (), ()))
+# What each function may be handed in, with a list or two where the document has one.
+ASKED = [
+    (lines.led, (SIGNS, GIVENS, LINES), {"rules": RULES}, ((G, G, A), (B,))),
+    (lines.are_lines_for, (SIGNS, GIVENS, LINES, (G, G, A), (B,)), {"rules": RULES}, True),
+    (lines.leaned, (SIGNS, GIVENS, LINES), {"rules": RULES}, (("given", 0), ("rule", 0, ((A,),)), ("joined", 1, 0))),
+    (models.is_model, (SIGNS, GIVENS, MODEL), {"unlikes": (((A,), (F, A, A)),)}, True),
+    (models.worth, (SIGNS, MODEL, (G, B)), {}, 0),
+    (patterns.is_pattern, (SIGNS, (G, -1)), {}, True),
+    (patterns.are_rules, (SIGNS, RULES), {}, True),
+]
+OF_A_BOOK = [
+    (lines.lines_for, ((A,), (B,)), (("given", 0),)),
+    (lines.lines_for, ((A,), (F, A, A)), None),
+    (models.model_of, (), MODEL),
+    (models.answer, ((A,), (B,)), ("alike", (("given", 0),))),
+    (models.answer, ((A,), (F, A, A)), ("unlike", (3, 2, ((((), 0),), (((), 0),), (((0,), 0),), (((0, 0), 1),), ())))),
+    (patterns.matches, ((G, -1),), [((A,), (A,))]),
+    (Book.alike, ((A,), (G, B)), True),
+    (Book.tried, ([((F, A, A), (A,))], (F, B, B), (A,)), True),
+    (Book.classes, (), [[(A,), (B,), (G, A)]]),
+    (Book.known, (), [(A,), (B,), (G, A)]),
+    (Book.first, ((G, A),), (A,)),
+    (Book.givens, (), GIVENS),
+    (Book.unlikes, (), ()),
+    (Book.levels, (), 0),
+    (Book.signs, (), SIGNS),
+    (len, (), 3),
+    (str, (), "Book of 3 terms, 2 givens, 0 unlikes, 0 levels"),
+]
+
+
+def shape(function):
+    """The arguments of a function in the form of the tables above."""
+    told = []
+    for name, parameter in inspect.signature(function).parameters.items():
+        if parameter.kind is parameter.KEYWORD_ONLY and "*" not in told:
+            told.append("*")
+        told.append(name if parameter.default is parameter.empty else (name, parameter.default))
+    return told
+
+
+class Interface(Case):
+    def test_functions(self):
+        for function, told in FUNCTIONS.items():
+            self.assertEqual(shape(function), told, function)
+
+    def test_methods_stand_in_the_class_itself(self):
+        for name, told in METHODS.items():
+            self.assertIn(name, vars(Book))
+            self.assertEqual(shape(vars(Book)[name]), ["self"] + told, name)
+        for name in ("__len__", "__eq__", "__str__", "__init__"):
+            self.assertIn(name, vars(Book))
+
+    def test_what_stands_behind_a_star_goes_by_name_alone(self):
+        for function, told, by_name, answer in ASKED:
+            self.assertEqual(function(*told, **by_name), answer)
+            names = [name for name in inspect.signature(function).parameters if name not in by_name]
+            self.assertEqual(function(**by_name, **dict(reversed(list(zip(names, told))))), answer)
+            if by_name:
+                with self.assertRaises(TypeError):
+                    function(*told, *by_name.values())
+
+    def test_asked_again(self):
+        for function, told, by_name, answer in ASKED:
+            for turn in range(2):
+                self.assertEqual(function(*told, **by_name), answer)
+        book = book_of(GIVENS)
+        for turn in range(2):
+            for function, told, answer in OF_A_BOOK:
+                self.assertEqual(function(book, *told), answer, function)
+        self.assertTrue(book == book_of(GIVENS))
+
+    def test_lists_that_are_told_are_new(self):
+        book = book_of(GIVENS)
+        for function, told, answer in OF_A_BOOK:
+            if type(answer) is list:
+                first = function(book, *told)
+                self.assertIsNot(function(book, *told), first)
+                first.append(None)
+                if type(first[0]) is list:
+                    first[0].clear()
+                self.assertEqual(function(book, *told), answer)
+
+    def test_what_was_told_may_be_handed_in_again(self):
+        book = book_of(GIVENS)
+        told = models.answer(book, *book.givens()[1])
+        self.assertIs(lines.are_lines_for(book.signs(), book.givens(), told[1], *book.givens()[1]), True)
+        self.assertIs(models.is_model(book.signs(), book.givens(), models.model_of(book), unlikes=book.unlikes()), True)
+        self.assertIs(Book(book.signs()).tried(list(book.givens()), book.known()[0], book.known()[2]), True)
+        self.assertTrue(Book(book.signs()) == Book(SIGNS))
+
+    def test_a_list_that_was_handed_in_may_be_changed(self):
+        book = book_of(GIVENS)
+        pairs = [((F, A, A), (A,))]
+        self.assertIs(book.tried(pairs, (F, A, B), (A,)), True)
+        self.assertEqual(pairs, [((F, A, A), (A,))])
+        before = state(book)
+        pairs[0] = None
+        pairs.append(3)
+        self.assertEqual(state(book), before)
+        self.assertIs(book.alike((F, A, B), (A,)), False)
+
+    def test_nothing_that_is_handed_in_is_changed(self):
+        book = book_of(GIVENS)
+        for thing in odd_things():
+            before = copy.deepcopy(thing)
+            for function, told, by_name, answer in ASKED:
+                for place in range(len(told)):
+                    self.ask(function, told[:place] + (thing,) + told[place + 1:], by_name)
+                for name in by_name:
+                    self.ask(function, told, {name: thing})
+            for function, told, answer in OF_A_BOOK:
+                for place in range(len(told)):
+                    self.ask(function, (book,) + told[:place] + (thing,) + told[place + 1:], {})
+            self.assertEqual(thing, before)
+        self.assertTrue(book == book_of(GIVENS))
+
+    def ask(self, function, told, by_name):
+        """Ask, and let nothing but the errors of the document come of it."""
+        try:
+            function(*told, **by_name)
+        except (NestError, AbsentError):
+            pass
+
+
+if __name__ == "__main__":
+    unittest.main()
