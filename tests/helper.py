@@ -279,6 +279,28 @@ def slow_worth(signs, model, term):
     return slow_table(signs, model, tree_of(signs, term))
 
 
+def slow_model(signs, thing):
+    """Whether it is a model of the signs, of anything: rule by rule."""
+    def is_thing(one):
+        return is_number(one) and one in range(thing[0])
+
+    if type(thing) is not tuple or len(thing) != 3 or not is_number(thing[0]) or not 1 <= thing[0] <= 300:
+        return False
+    if not is_thing(thing[1]) or type(thing[2]) is not tuple or len(thing[2]) != len(signs):
+        return False
+    for (name, many), table in zip(signs, thing[2]):
+        if type(table) is not tuple:
+            return False
+        for row in table:
+            if type(row) is not tuple or len(row) != 2 or type(row[0]) is not tuple or len(row[0]) != many:
+                return False
+            if not all(is_thing(one) for one in row[0] + (row[1],)) or row[1] == thing[1]:
+                return False
+        if list(table) != sorted(set(table)) or len({row[0] for row in table}) != len(table):
+            return False
+    return True
+
+
 def slow_pair(pairs, grounds, line):
     """The pair of terms that a line shows behind those pairs, by the words of the document; None where it is none."""
     signs, givens, rules = grounds

@@ -1,11 +1,11 @@
-"""The interface: names of arguments, defaults, what goes by name alone; and point 2 for all that stage 2 brings."""
+"""The interface: names of arguments, defaults, what goes by name alone; and point 2 for all but the terms."""
 
 import copy
 import inspect
 import unittest
 
 from helper import A, B, F, G, SIGNS, Case, book_of, odd_things, state
-from likenest import books, lines, models, patterns
+from likenest import books, compared, cores, lines, models, patterns, torn
 from likenest.books import Book
 from likenest.errors import AbsentError, NestError
 
@@ -23,6 +23,11 @@ FUNCTIONS = {
     patterns.are_rules: ["signs", "thing"],
     patterns.matches: ["nest", "pattern"],
     books.Book: ["signs"],
+    torn.torn: ["book"],
+    torn.pops: ["book"],
+    cores.core: ["book", "one", "other"],
+    cores.is_core: ["signs", "givens", "one", "other", "thing"],
+    compared.compared: ["one", "other"],
 }
 METHODS = {
     "know": ["term"], "push": [], "back": [("levels", 1)], "tell": ["one", "other"], "part": ["one", "other"],
@@ -33,6 +38,7 @@ GIVENS = (((A,), (B,)), ((G, A), (B,)))
 LINES = (("given", 0), ("given", 0), ("parts", G, (1,)), ("rule", 0, ((A,),)), ("joined", 3, 1))
 RULES = (((G, G, -1), (-1,)),)
 MODEL = (2, 1, ((((), 0),), (((), 0),), (((0,), 0),), (), ()))
+CORE = ((0,), (("given", 0),), ((2, 1, ((((), 0),), (), (), (), ())),))
 # What each function may be handed in, with a list or two where the document has one.
 ASKED = [
     (lines.led, (SIGNS, GIVENS, LINES), {"rules": RULES}, ((G, G, A), (B,))),
@@ -42,6 +48,7 @@ ASKED = [
     (models.worth, (SIGNS, MODEL, (G, B)), {}, 0),
     (patterns.is_pattern, (SIGNS, (G, -1)), {}, True),
     (patterns.are_rules, (SIGNS, RULES), {}, True),
+    (cores.is_core, (SIGNS, GIVENS, (A,), (B,), CORE), {}, True),
 ]
 OF_A_BOOK = [
     (lines.lines_for, ((A,), (B,)), (("given", 0),)),
@@ -50,6 +57,9 @@ OF_A_BOOK = [
     (models.answer, ((A,), (B,)), ("alike", (("given", 0),))),
     (models.answer, ((A,), (F, A, A)), ("unlike", (3, 2, ((((), 0),), (((), 0),), (((0,), 0),), (((0, 0), 1),), ())))),
     (patterns.matches, ((G, -1),), [((A,), (A,))]),
+    (torn.torn, (), None),
+    (torn.pops, (), 0),
+    (cores.core, ((F, A, A), (F, A, A)), ((), (("self", (F, A, A)),), ())),
     (Book.alike, ((A,), (G, B)), True),
     (Book.tried, ([((F, A, A), (A,))], (F, B, B), (A,)), True),
     (Book.classes, (), [[(A,), (B,), (G, A)]]),
@@ -123,6 +133,19 @@ class Interface(Case):
         self.assertIs(models.is_model(book.signs(), book.givens(), models.model_of(book), unlikes=book.unlikes()), True)
         self.assertIs(Book(book.signs()).tried(list(book.givens()), book.known()[0], book.known()[2]), True)
         self.assertTrue(Book(book.signs()) == Book(SIGNS))
+
+    def test_papers_that_were_told_may_be_handed_in_again(self):
+        book = book_of(GIVENS)
+        paper = cores.core(book, (G, B), (A,))
+        self.assertEqual(paper[0], (0, 1))
+        self.assertIs(cores.is_core(book.signs(), book.givens(), (G, B), (A,), paper), True)
+        told = compared.compared(book, book.twin())
+        for pair, papers in zip(GIVENS, told[1]):
+            self.assertIs(lines.are_lines_for(book.signs(), book.givens(), papers, *pair), True)
+        word, side, number, model = compared.compared(book, book_of(GIVENS + (((F, A, A), (A,)),)))
+        self.assertIs(models.is_model(book.signs(), book.givens(), model, unlikes=(((F, A, A), (A,)),)), True)
+        book.part((G, B), (A,))
+        self.assertIs(lines.are_lines_for(book.signs(), book.givens(), torn.torn(book)[1], *book.unlikes()[0]), True)
 
     def test_a_list_that_was_handed_in_may_be_changed(self):
         book = book_of(GIVENS)

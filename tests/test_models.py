@@ -5,7 +5,7 @@ import random
 import unittest
 
 from helper import A, B, C_SIGNS, F, G, H, NO_GIVENS, NO_SIGNS, NO_TERMS, SIGNS, Case, book_of, chain, drawn_pairs
-from helper import drawn_term, is_number, odd_things, otherwise, slow_worth, terms_to
+from helper import drawn_term, odd_things, otherwise, slow_model, slow_worth, terms_to
 from likenest import errors
 from likenest.books import Book
 from likenest.models import is_model, model_of, worth
@@ -13,28 +13,6 @@ from likenest.models import is_model, model_of, worth
 EMPTY = (1, 0, ((), (), (), (), ()))
 # a is 0, b is 1, g turns 0 to 1 and 1 to 0, f(0, 1) is 0, h(1, 1, 1) is 1, all else is 2.
 MODEL = (3, 2, ((((), 0),), (((), 1),), (((0,), 1), ((1,), 0)), (((0, 1), 0),), (((1, 1, 1), 1),)))
-
-
-def slow_model(signs, thing):
-    """Whether it is a model of the signs, of anything: rule by rule."""
-    def is_thing(one):
-        return is_number(one) and one in range(thing[0])
-
-    if type(thing) is not tuple or len(thing) != 3 or not is_number(thing[0]) or not 1 <= thing[0] <= 300:
-        return False
-    if not is_thing(thing[1]) or type(thing[2]) is not tuple or len(thing[2]) != len(signs):
-        return False
-    for (name, many), table in zip(signs, thing[2]):
-        if type(table) is not tuple:
-            return False
-        for row in table:
-            if type(row) is not tuple or len(row) != 2 or type(row[0]) is not tuple or len(row[0]) != many:
-                return False
-            if not all(is_thing(one) for one in row[0] + (row[1],)) or row[1] == thing[1]:
-                return False
-        if list(table) != sorted(set(table)) or len({row[0] for row in table}) != len(table):
-            return False
-    return True
 
 
 def with_table(sign, table, size=3, rest=2):
