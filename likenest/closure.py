@@ -67,10 +67,14 @@ class Closure:
         return list(lists.values())
 
 
+def given_links(givens):
+    """The links of numbered givens: a list."""
+    return [(one, other, ("given", number)) for number, (one, other) in enumerate(givens)]
+
+
 def closure_of(signs, known, givens, others):
     """The closure of known terms and others, known or not, by numbered givens."""
-    links = [(one, other, ("given", number)) for number, (one, other) in enumerate(givens)]
-    return Closure(signs, gathered(signs, known, others), links)
+    return Closure(signs, gathered(signs, known, others), given_links(givens))
 
 
 def book_closure(book, others):

@@ -82,11 +82,16 @@ SHOWN = {
 }
 
 
+def has_form(line):
+    """Whether it is a tuple that begins with one of the lines' words and is as long as it must be, of anything."""
+    if not isinstance(line, tuple) or len(line) == 0 or not isinstance(line[0], str):
+        return False
+    return LENGTHS.get(line[0]) == len(line)
+
+
 def show_line(grounds, pairs, line):
     """The pair that a line shows behind lines that show those pairs, None where it is no line, of anything."""
-    if not isinstance(line, tuple) or len(line) == 0 or not isinstance(line[0], str):
-        return None
-    if LENGTHS.get(line[0]) != len(line):
+    if not has_form(line):
         return None
     show = SHOWN[line[0]]
     pair = show(grounds, pairs, line)

@@ -301,6 +301,62 @@ def slow_model(signs, thing):
     return True
 
 
+def slow_matches(nest, pattern):
+    """All rows of classes in the letters' places, each looked through from within; by the classes alone."""
+    signs = (*nest.signs(), ("u", 0), ("v", 0), ("w", 0))
+    many = len(nest.signs())
+    classes = nest.classes()
+    first = {term: terms[0] for terms in classes for term in terms}
+    shapes = {}
+    for term in first:
+        parts = tree_of(nest.signs(), term)[1:]
+        shapes[(term[0],) + tuple(first[flat(part)] for part in parts)] = first[term]
+    tree = tree_of(signs, tuple(number if number >= 0 else many - 1 - number for number in pattern))
+    letters = len({number for number in pattern if number < 0})
+
+    def class_of(tree, row):
+        if tree[0] >= many:
+            return row[tree[0] - many]
+        parts = tuple(class_of(part, row) for part in tree[1:])
+        return shapes.get((tree[0],) + parts)
+
+    found = []
+    for row in itertools.product([terms[0] for terms in classes], repeat=letters):
+        whole = class_of(tree, row)
+        if whole is not None:
+            found.append((whole,) + row)
+    return sorted(found)
+
+
+def slow_class_model(signs, classes):
+    """The model with a thing for each class, in their order, and rest."""
+    thing = {term: number for number, terms in enumerate(classes) for term in terms}
+    tables = [set() for sign in signs]
+    for term in thing:
+        tables[term[0]].add((tuple(thing[flat(part)] for part in tree_of(signs, term)[1:]), thing[term]))
+    return (len(classes) + 1, len(classes), tuple(tuple(sorted(table)) for table in tables))
+
+
+def slow_side(signs, model, side, row):
+    """The worth of a rule's side with the things of a row in the letters' places."""
+    def read(place):
+        if side[place] < 0:
+            return row[-1 - side[place]], place + 1
+        parts, end = [], place + 1
+        for part in range(signs[side[place]][1]):
+            worth, end = read(end)
+            parts.append(worth)
+        return dict(model[2][side[place]]).get(tuple(parts), model[1]), end
+    return read(0)[0]
+
+
+def slow_holds(signs, model, rule):
+    """Whether a rule's two sides have the same worth for every row of things."""
+    letters = len({number for number in rule[0] if number < 0})
+    return all(slow_side(signs, model, rule[0], row) == slow_side(signs, model, rule[1], row)
+               for row in itertools.product(range(model[0]), repeat=letters))
+
+
 def slow_pair(pairs, grounds, line):
     """The pair of terms that a line shows behind those pairs, by the words of the document; None where it is none."""
     signs, givens, rules = grounds

@@ -5,9 +5,11 @@ import inspect
 import unittest
 
 from helper import A, B, F, G, SIGNS, Case, book_of, odd_things, state
-from likenest import books, compared, cores, lines, models, patterns, torn
+from likenest import books, compared, cores, desk, least, lines, models, patterns, rounds, texts, torn
 from likenest.books import Book
+from likenest.desk import Desk
 from likenest.errors import AbsentError, NestError
+from likenest.rounds import Rounds
 
 # Each argument as (name, default); a star goes ahead of those by name alone.
 FUNCTIONS = {
@@ -28,11 +30,33 @@ FUNCTIONS = {
     cores.core: ["book", "one", "other"],
     cores.is_core: ["signs", "givens", "one", "other", "thing"],
     compared.compared: ["one", "other"],
+    rounds.Rounds: ["book", ("rules", ()), "*", ("most", 60)],
+    least.least: ["nest", "term", "*", ("costs", None)],
+    least.potentials: ["nest", "*", ("costs", None)],
+    least.are_potentials: ["nest", "thing", "*", ("costs", None)],
+    texts.signs_text: ["signs"],
+    texts.term_text: ["signs", "term"],
+    texts.pair_text: ["signs", "one", "other"],
+    texts.lines_text: ["signs", "lines"],
+    texts.read_signs: ["text"],
+    texts.read_term: ["signs", "text"],
+    texts.read_pair: ["signs", "text"],
+    texts.read_lines: ["signs", "text"],
+    desk.Desk: ["signs"],
 }
-METHODS = {
-    "know": ["term"], "push": [], "back": [("levels", 1)], "tell": ["one", "other"], "part": ["one", "other"],
-    "alike": ["one", "other"], "tried": ["pairs", "one", "other"], "classes": [], "known": [], "first": ["term"],
-    "givens": [], "unlikes": [], "levels": [], "signs": [], "twin": [],
+OF_A_CLASS = {
+    Book: {
+        "know": ["term"], "push": [], "back": [("levels", 1)], "tell": ["one", "other"], "part": ["one", "other"],
+        "alike": ["one", "other"], "tried": ["pairs", "one", "other"], "classes": [], "known": [], "first": ["term"],
+        "givens": [], "unlikes": [], "levels": [], "signs": [], "twin": [], "__len__": [], "__str__": [],
+        "__eq__": ["other"], "__init__": ["signs"],
+    },
+    Rounds: {
+        "go": [], "go_on": [("most", 3)], "word": [], "done": [], "known": [], "classes": [], "first": ["term"],
+        "signs": [], "alike": ["one", "other"], "answer": ["one", "other"], "__len__": [], "__str__": [],
+        "__init__": ["book", ("rules", ()), "*", ("most", 60)],
+    },
+    Desk: {"say": ["line"], "__init__": ["signs"]},
 }
 GIVENS = (((A,), (B,)), ((G, A), (B,)))
 LINES = (("given", 0), ("given", 0), ("parts", G, (1,)), ("rule", 0, ((A,),)), ("joined", 3, 1))
@@ -49,6 +73,14 @@ ASKED = [
     (patterns.is_pattern, (SIGNS, (G, -1)), {}, True),
     (patterns.are_rules, (SIGNS, RULES), {}, True),
     (cores.is_core, (SIGNS, GIVENS, (A,), (B,), CORE), {}, True),
+    (texts.signs_text, (SIGNS,), {}, "a/0 b/0 g/1 f/2 h/3"),
+    (texts.term_text, (SIGNS, (F, A, B)), {}, "f(a,b)"),
+    (texts.pair_text, (SIGNS, (A,), (G, B)), {}, "a = g(b)"),
+    (texts.lines_text, (SIGNS, LINES[1:4]), {}, "given 0\nparts g 1\nrule 0 a"),
+    (texts.read_signs, ("a/0 b/0 g/1 f/2 h/3",), {}, SIGNS),
+    (texts.read_term, (SIGNS, "f(a,b)"), {}, (F, A, B)),
+    (texts.read_pair, (SIGNS, "a = g(b)"), {}, ((A,), (G, B))),
+    (texts.read_lines, (SIGNS, "given 0\nparts g 1\nrule 0 a"), {}, LINES[1:4]),
 ]
 OF_A_BOOK = [
     (lines.lines_for, ((A,), (B,)), (("given", 0),)),
@@ -60,6 +92,9 @@ OF_A_BOOK = [
     (torn.torn, (), None),
     (torn.pops, (), 0),
     (cores.core, ((F, A, A), (F, A, A)), ((), (("self", (F, A, A)),), ())),
+    (least.least, ((G, A),), (1, (A,))),
+    (least.potentials, (), (((A,), 1),)),
+    (least.are_potentials, ((((A,), 0),),), True),
     (Book.alike, ((A,), (G, B)), True),
     (Book.tried, ([((F, A, A), (A,))], (F, B, B), (A,)), True),
     (Book.classes, (), [[(A,), (B,), (G, A)]]),
@@ -71,6 +106,25 @@ OF_A_BOOK = [
     (Book.signs, (), SIGNS),
     (len, (), 3),
     (str, (), "Book of 3 terms, 2 givens, 0 unlikes, 0 levels"),
+]
+OF_ROUNDS = [
+    (Rounds.word, (), "still"),
+    (Rounds.done, (), 1),
+    (Rounds.known, (), [(A,), (B,), (G, A), (G, G, A)]),
+    (Rounds.classes, (), [[(A,), (B,), (G, A), (G, G, A)]]),
+    (Rounds.first, ((G, A),), (A,)),
+    (Rounds.signs, (), SIGNS),
+    (Rounds.alike, ((A,), (G, A)), True),
+    (Rounds.answer, ((A,), (B,)), ("alike", (("given", 0),))),
+    (Rounds.go, (), 0),
+    (Rounds.go_on, (), "still"),
+    (Rounds.go_on, (0,), "still"),
+    (patterns.matches, ((G, -1),), [((A,), (A,))]),
+    (least.least, ((G, G, A),), (1, (A,))),
+    (least.potentials, (), (((A,), 1),)),
+    (least.are_potentials, ((((A,), 2),),), False),
+    (len, (), 4),
+    (str, (), "Rounds still after 1, 4 terms"),
 ]
 
 
@@ -90,11 +144,10 @@ class Interface(Case):
             self.assertEqual(shape(function), told, function)
 
     def test_methods_stand_in_the_class_itself(self):
-        for name, told in METHODS.items():
-            self.assertIn(name, vars(Book))
-            self.assertEqual(shape(vars(Book)[name]), ["self"] + told, name)
-        for name in ("__len__", "__eq__", "__str__", "__init__"):
-            self.assertIn(name, vars(Book))
+        for kind, methods in OF_A_CLASS.items():
+            for name, told in methods.items():
+                self.assertIn(name, vars(kind))
+                self.assertEqual(shape(vars(kind)[name]), ["self"] + told, (kind, name))
 
     def test_what_stands_behind_a_star_goes_by_name_alone(self):
         for function, told, by_name, answer in ASKED:
@@ -147,6 +200,22 @@ class Interface(Case):
         book.part((G, B), (A,))
         self.assertIs(lines.are_lines_for(book.signs(), book.givens(), torn.torn(book)[1], *book.unlikes()[0]), True)
 
+    def test_what_rounds_told_may_be_handed_in_again(self):
+        told = Rounds(book_of(GIVENS), RULES)
+        told.go_on()
+        word, paper = told.answer(told.known()[0], told.known()[-1])
+        self.assertIs(lines.are_lines_for(told.signs(), GIVENS, paper, told.known()[0], told.known()[-1], rules=RULES), True)
+        self.assertIs(least.are_potentials(told, least.potentials(told)), True)
+        self.assertEqual(least.least(told, told.first(told.known()[-1])), (1, (A,)))
+        self.assertEqual(texts.read_lines(told.signs(), texts.lines_text(told.signs(), paper)), paper)
+
+    def test_asked_of_rounds(self):
+        told = Rounds(book_of(GIVENS), RULES)
+        told.go_on()
+        for turn in range(2):
+            for function, handed, answer in OF_ROUNDS:
+                self.assertEqual(function(told, *handed), answer, function)
+
     def test_a_list_that_was_handed_in_may_be_changed(self):
         book = book_of(GIVENS)
         pairs = [((F, A, A), (A,))]
@@ -160,6 +229,8 @@ class Interface(Case):
 
     def test_nothing_that_is_handed_in_is_changed(self):
         book = book_of(GIVENS)
+        told_rounds = Rounds(book, RULES)
+        told_rounds.go_on()
         for thing in odd_things():
             before = copy.deepcopy(thing)
             for function, told, by_name, answer in ASKED:
@@ -167,11 +238,19 @@ class Interface(Case):
                     self.ask(function, told[:place] + (thing,) + told[place + 1:], by_name)
                 for name in by_name:
                     self.ask(function, told, {name: thing})
-            for function, told, answer in OF_A_BOOK:
-                for place in range(len(told)):
-                    self.ask(function, (book,) + told[:place] + (thing,) + told[place + 1:], {})
+            for nest, table in ((book, OF_A_BOOK), (told_rounds, OF_ROUNDS)):
+                for function, told, answer in table:
+                    for place in range(len(told)):
+                        self.ask(function, (nest,) + told[:place] + (thing,) + told[place + 1:], {})
+                for function, told in ((least.least, ((A,),)), (least.potentials, ()), (least.are_potentials, ((),))):
+                    self.ask(function, (nest,) + told, {"costs": thing})
+            self.ask(Rounds, (book, thing), {})
+            self.ask(Rounds, (book,), {"most": thing})
+            self.ask(Desk, (thing,), {})
+            self.ask(Desk(SIGNS).say, (thing,), {})
             self.assertEqual(thing, before)
         self.assertTrue(book == book_of(GIVENS))
+        self.assertEqual(str(told_rounds), "Rounds still after 1, 4 terms")
 
     def ask(self, function, told, by_name):
         """Ask, and let nothing but the errors of the document come of it."""

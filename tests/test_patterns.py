@@ -4,8 +4,8 @@ import itertools
 import random
 import unittest
 
-from helper import A, B, C_SIGNS, F, G, H, NO_SIGNS, SIGNS, BookCase, Case, book_of, drawn_pairs, flat, full_book
-from helper import nested, odd_things, otherwise, slow_row, state, tree_of
+from helper import A, B, C_SIGNS, F, G, H, NO_SIGNS, SIGNS, BookCase, Case, book_of, drawn_pairs, full_book
+from helper import nested, odd_things, otherwise, slow_matches, slow_row, state
 from likenest import errors
 from likenest.books import Book
 from likenest.patterns import are_rules, is_pattern, matches
@@ -164,33 +164,6 @@ class AreRules(Case):
             self.assertIs(are_rules(SIGNS, thing), thing == (), repr(thing)[:200])
             for whole in ((thing,), ((thing, (A,)),), (((G, -1), thing),)):
                 self.assertIs(are_rules(SIGNS, whole), slow_rules(SIGNS, whole), repr(whole)[:200])
-
-
-def slow_matches(book, pattern):
-    """All rows of classes in the letters' places, each looked through from within; by the book's classes alone."""
-    signs = (*book.signs(), ("u", 0), ("v", 0), ("w", 0))
-    many = len(book.signs())
-    classes = book.classes()
-    first = {term: terms[0] for terms in classes for term in terms}
-    shapes = {}
-    for term in first:
-        parts = tree_of(book.signs(), term)[1:]
-        shapes[(term[0],) + tuple(first[flat(part)] for part in parts)] = first[term]
-    tree = tree_of(signs, tuple(number if number >= 0 else many - 1 - number for number in pattern))
-    letters = len({number for number in pattern if number < 0})
-
-    def class_of(tree, row):
-        if tree[0] >= many:
-            return row[tree[0] - many]
-        parts = tuple(class_of(part, row) for part in tree[1:])
-        return shapes.get((tree[0],) + parts)
-
-    found = []
-    for row in itertools.product([terms[0] for terms in classes], repeat=letters):
-        whole = class_of(tree, row)
-        if whole is not None:
-            found.append((whole,) + row)
-    return sorted(found)
 
 
 class Matches(BookCase):
