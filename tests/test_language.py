@@ -189,6 +189,43 @@ class Language(unittest.TestCase):
                   if isinstance(node, ast.Attribute) and isinstance(node.ctx, ast.Store)}
         self.assertFalse(stored & own_methods())
 
+    def test_l18_what_is_read_off_an_object_is_assigned_or_a_method(self):
+        stored = {node.attr for name, node in nodes()
+                  if isinstance(node, ast.Attribute) and isinstance(node.ctx, ast.Store)}
+        allowed = stored | own_methods() | BUILTIN_METHODS
+        for name, node in nodes():
+            if isinstance(node, ast.Attribute) and isinstance(node.ctx, ast.Load):
+                self.assertIn(node.attr, allowed, (name, node.lineno))
+
+    def test_l16_no_two_files_import_from_each_other(self):
+        needs = {path.stem: set() for path in files()}
+        for path in files():
+            for node in ast.walk(ast.parse(path.read_text("utf-8"))):
+                if isinstance(node, ast.ImportFrom):
+                    needs[path.stem].add(node.module.partition(".")[2])
+        left = set(needs)
+        while ready := {name for name in left if not needs[name] & left}:
+            left -= ready
+        self.assertFalse(left)
+
+    def test_l16_each_import_names_the_file_that_defines_the_name(self):
+        for path in files():
+            for node in ast.walk(ast.parse(path.read_text("utf-8"))):
+                if isinstance(node, ast.ImportFrom):
+                    source = PACKAGE / (node.module.partition(".")[2] + ".py")
+                    body = ast.parse(source.read_text("utf-8")).body
+                    bound = [name for below in body if not isinstance(below, ast.ImportFrom)
+                             for name in (bound_names(below.targets[0]) if isinstance(below, ast.Assign) else bound_names(below))]
+                    for alias in node.names:
+                        self.assertIn(alias.name, bound, path.name)
+
+    def test_l7_stars_only_in_zip_over_a_name(self):
+        for name, node in nodes():
+            if isinstance(node, ast.Starred):
+                self.assertIsInstance(node.value, ast.Name, (name, node.lineno))
+            if isinstance(node, ast.Call) and any(isinstance(below, ast.Starred) for below in node.args):
+                self.assertTrue(is_call_of(node, "zip"), (name, node.lineno))
+
 
 if __name__ == "__main__":
     unittest.main()
